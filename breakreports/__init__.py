@@ -1,0 +1,1 @@
+"""Breakreports: rows told by turns of keys."""

@@ -113,11 +113,16 @@ def check_report(report):
         raise BadReport("detail", 0)
 
 
-def check_rows(rows, fields):
-    """Refuse rows for the first that can't be or is one too many."""
+def check_each_row(rows, fits):
+    """Refuse rows for the first that doesn't fit or is one too many."""
     for number, row in enumerate(rows):
-        if number >= MOST_ROWS or not is_row(row, fields):
+        if number >= MOST_ROWS or not fits(row):
             raise BadRows(number)
+
+
+def check_rows(rows, fields):
+    """Refuse what are no rows of so many fields."""
+    check_each_row(rows, lambda row: is_row(row, fields))
 
 
 def holds(worth, word, number):

@@ -1,9 +1,31 @@
-"""Reports and rows that several tests use, and what every function of (report, rows) is."""
+"""Reports and rows that several tests use, and every function of a report as one of (report, rows)."""
 
 from breakreports.lines import lines, totals
+from breakreports.notes import written
+from breakreports.pages import paged
+from breakreports.plans import done, plain
 from breakreports.reports import in_order
 
-ASKED = (in_order, lines, totals)
+
+def paged_of(report, rows):
+    return paged(report, rows, 16, ())
+
+
+def done_of(report, rows):
+    return done(report, (("next", 1), ("row",), ("end",)), rows, 3)
+
+
+def plain_of(report, rows):
+    return plain(report)
+
+
+def written_of(report, rows):
+    return written(report)
+
+
+OF_RISING = (lines, totals, paged_of)
+OF_ROWS = OF_RISING + (in_order, done_of)
+OF_REPORTS = OF_ROWS + (plain_of, written_of)
 PARTS = ("fields", "keys", "tests", "sums", "heads", "feet", "detail")
 ALL_SUMS = (("count", 0), ("sum", 2), ("least", 2), ("most", 2))
 

@@ -3,7 +3,9 @@
 import unittest
 
 from breakreports.errors import BadReport
-from samples import ALL_SUMS, ASKED, NUMBERS, OTHERS, TRUTHS, plain_report, refused, report_with
+from breakreports.pages import paged
+from breakreports.plans import done
+from samples import ALL_SUMS, NUMBERS, OF_REPORTS, OTHERS, TRUTHS, plain_report, refused, report_with
 
 NO_FEET = (None, None, None)
 NOT_TUPLES = NUMBERS + TRUTHS + ("", "abc", None)
@@ -11,16 +13,16 @@ NOT_TUPLES = NUMBERS + TRUTHS + ("", "abc", None)
 
 class ReportTest(unittest.TestCase):
     def assert_refused(self, report, part, number):
-        for ask in ASKED:
+        for ask in OF_REPORTS:
             with self.subTest(ask=ask.__name__, report=report):
                 refusal = refused(BadReport, ask, report, [])
                 self.assertEqual((refusal.part, refusal.number), (part, number))
                 self.assertIs(refusal.number.__class__, int)
 
     def assert_allowed(self, report):
-        for ask in ASKED:
+        for ask in OF_REPORTS:
             with self.subTest(ask=ask.__name__, report=report):
-                self.assertIsInstance(ask(report, []), list)
+                self.assertIsNotNone(ask(report, []))
 
     def assert_each_place_refused(self, part, good, wrong, **changes):
         """Put each wrong thing first, in the middle and last into a part."""
@@ -277,8 +279,18 @@ class TestWhichGoesFirst(ReportTest):
     def test_a_wrong_report_goes_ahead_of_wrong_rows(self):
         for report, part in ((0, "report"), (report_with(detail=0), "detail"), (report_with(fields=0), "fields")):
             for rows in ([None], [(1, 2)], [(0, 0, 0)] * 61, [(1, 1, 1), (0, 0, 0)]):
-                for ask in ASKED:
+                for ask in OF_REPORTS:
                     self.assertEqual(refused(BadReport, ask, report, rows).part, part)
+
+    def test_a_wrong_report_goes_ahead_of_all_that_is_handed_in_behind_it(self):
+        for report, part in ((None, "report"), (report_with(sums=0), "sums"), (report_with(heads=()), "heads")):
+            for rows in ([], [None], [(1, 1, 1), (0, 0, 0)]):
+                for size in (0, 16, 61):
+                    for again in ((), (9,)):
+                        self.assertEqual(refused(BadReport, paged, report, rows, size, again).part, part)
+                for plan in (0, (), (("stop",),), (("end",),) * 81):
+                    for most in (-1, 0, 5001):
+                        self.assertEqual(refused(BadReport, done, report, plan, rows, most).part, part)
 
 
 if __name__ == "__main__":

@@ -5,12 +5,12 @@ import unittest
 from breakreports.errors import BadOrder, BadRows
 from breakreports.lines import lines, totals
 from breakreports.reports import in_order
-from samples import ASKED, plain_report, refused, report_with
+from samples import OF_RISING, OF_ROWS, done_of, plain_report, refused, report_with
 
 
 class TestRows(unittest.TestCase):
     def assert_refused(self, report, rows, number):
-        for ask in ASKED:
+        for ask in OF_ROWS:
             with self.subTest(ask=ask.__name__, rows=rows):
                 refusal = refused(BadRows, ask, report, rows)
                 self.assertEqual(refusal.number, number)
@@ -133,15 +133,16 @@ class TestInOrder(unittest.TestCase):
 
 class TestOrder(unittest.TestCase):
     def assert_refused(self, report, rows, number):
-        for ask in (lines, totals):
+        for ask in OF_RISING:
             with self.subTest(ask=ask.__name__, rows=rows):
                 refusal = refused(BadOrder, ask, report, rows)
                 self.assertEqual(refusal.number, number)
                 self.assertIs(refusal.number.__class__, int)
-        self.assertIsInstance(in_order(report, rows), list)
+        for ask in (in_order, done_of):
+            self.assertIsNotNone(ask(report, rows))
 
     def assert_allowed(self, report, rows):
-        for ask in (lines, totals):
+        for ask in OF_RISING:
             with self.subTest(ask=ask.__name__, rows=rows):
                 self.assertIsInstance(ask(report, rows), list)
 
@@ -180,7 +181,7 @@ class TestOrder(unittest.TestCase):
 
     def test_a_wrong_row_goes_ahead_of_a_fall(self):
         report = plain_report(1, (0,))
-        for ask in (lines, totals):
+        for ask in OF_RISING:
             self.assertEqual(refused(BadRows, ask, report, [(2,), (1,), (1000,)]).number, 2)
             self.assertEqual(refused(BadRows, ask, report, [(2,), (1,)] + [(5,)] * 59).number, 60)
 

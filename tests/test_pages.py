@@ -123,6 +123,17 @@ class TestBlocks(unittest.TestCase):
             [("page", 2), ("row", 14), ("foot", 0, (), (15,))],
         ])
 
+    def test_a_foot_stays_with_the_row_ahead_of_it_whatever_the_rows_number(self):
+        report = keyed_report((True,) * 4, (1,) * 4, True, 3, (0, 1, 2))
+        told = lines(report, [(1, 1, 1), (2, 2, 2)])
+        self.assertEqual(told[8:], [
+            ("head", 1, (2,)), ("head", 2, (2, 2)), ("head", 3, (2, 2, 2)), ("row", 1),
+            ("foot", 3, (2, 2, 2), (1,)), ("foot", 2, (2, 2), (1,)), ("foot", 1, (2,), (1,)), ("foot", 0, (), (2,)),
+        ])
+        self.assertEqual(paged(report, [(1, 1, 1), (2, 2, 2)], 16, (0, 1)), [
+            [("page", 1)] + told[:8], [("page", 2), ("again", 0, ())] + told[8:],
+        ])
+
     def test_a_foot_stays_with_the_deeper_foot_ahead_of_it(self):
         report = keyed_report((False, False), (1, 1), False)
         feet = [("foot", 1, (key,), (1,)) for key in range(15)]
@@ -148,6 +159,13 @@ class TestBlocks(unittest.TestCase):
         self.assertEqual(paged(report, rows, 16, ()), [
             [("page", 1)] + feet + [("foot", 1, (0,), (14,))],
             [("page", 2), ("foot", 2, (1, 5), (1,)), ("foot", 1, (1,), (1,))],
+        ])
+
+    def test_the_first_line_stands_behind_none(self):
+        feet = (None, ((0,), (0, "ge", 2)), ((0,), (1, "lt", 2)))
+        report = (3, (0, 1), (), (("count", 0), ("sum", 2)), (False,) * 3, feet, False)
+        self.assertEqual(paged(report, [(1, 1, 2), (1, 2, 2), (2, 1, 0)], 16, ()), [
+            [("page", 1), ("foot", 1, (1,), (2,)), ("foot", 2, (2, 1), (1,))],
         ])
 
     def test_a_head_stays_with_the_row_behind_it(self):
